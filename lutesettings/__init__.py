@@ -1,0 +1,1 @@
+"""Settings of songs on a lute: the functions to call are in lutesettings.songs."""
