@@ -3,6 +3,10 @@
 # What stands where the text is over; no byte is below 0.
 END = -1
 
+NEW_LINE = 10
+BLANK = 32
+POINT = 46
+
 
 class Fault(Exception):
     """A text that is not of its form, and the place where it's at fault."""
@@ -34,3 +38,8 @@ class Cursor:
         if self.byte() != wanted:
             raise Fault(self.place)
         self.advance()
+
+    def take_word(self, word):
+        """Go on behind the word; nothing else can stand here."""
+        for sign in word:
+            self.take(ord(sign))

@@ -1,8 +1,7 @@
 """Intervals: tuples a, b, c, e, d of whole numbers; how wide they are, and their texts."""
 
-from lutesettings.cursors import Cursor, END, Fault
+from lutesettings.cursors import BLANK, Cursor, END, Fault
 
-BLANK = 32
 MINUS = 45
 SLASH = 47
 ZERO = 48
@@ -12,6 +11,7 @@ CARET = 94
 
 # The digits 2, 3, 5, 7, each with its place among the powers.
 FACTORS = {50: 0, 51: 1, 53: 2, 55: 3}
+FACTOR_SIGNS = "2357"
 
 MOST_DIGITS = 4
 MOST_POWER = 99
@@ -38,6 +38,69 @@ def width(interval):
     powers = interval[:4]
     total = sum([power * logarithm for power, logarithm in zip(powers, LOGARITHMS)])
     return total * (COMMON_PARTS // interval[4])
+
+
+def is_interval(numbers):
+    """Whether a list of whole numbers is an interval."""
+    if len(numbers) != 5 or numbers[4] < 1 or not is_within_bounds(numbers):
+        return False
+    return common_factor_of_all(numbers) == 1
+
+
+def is_within_bounds(numbers):
+    """Whether five numbers without a common factor, the last above 0, are an interval."""
+    for power in numbers[:4]:
+        if abs(power) > MOST_POWER:
+            return False
+    return numbers[4] <= MOST_PARTS
+
+
+def upon(x, y):
+    """The five numbers of interval x upon interval y, without a common factor: an interval or not."""
+    numbers = [a * y[4] + b * x[4] for a, b in zip(x[:4], y[:4])]
+    numbers.append(x[4] * y[4])
+    common = common_factor_of_all(numbers)
+    return tuple([number // common for number in numbers])
+
+
+def common_factor_of_all(numbers):
+    """The greatest whole number that divides all of these; one of them at least isn't 0."""
+    common = 0
+    for number in numbers:
+        common = common_factor(common, number)
+    return common
+
+
+def common_factor(a, b):
+    """The greatest whole number that divides both; of 0 and b it's b."""
+    while b != 0:
+        rest = a % b
+        a = b
+        b = rest
+    return abs(a)
+
+
+def interval_text(interval):
+    """An interval's text."""
+    factors = []
+    for digit, power in zip(FACTOR_SIGNS, interval[:4]):
+        if power != 0:
+            factors.append(digit + power_text(power, interval[4]))
+    if not factors:
+        return "1"
+    return " ".join(factors)
+
+
+def power_text(power, parts):
+    """What stands behind a factor's digit to tell its power of so many parts."""
+    common = common_factor(power, parts)
+    n = power // common
+    d = parts // common
+    if d > 1:
+        return f"^{n}/{d}"
+    if n == 1:
+        return ""
+    return f"^{n}"
 
 
 def read_interval(text, start, end):
@@ -125,15 +188,6 @@ def read_number(cursor):
     return number
 
 
-def common_factor(a, b):
-    """The greatest whole number that divides both; of 0 and b it's b."""
-    while b != 0:
-        rest = a % b
-        a = b
-        b = rest
-    return abs(a)
-
-
 def with_common_parts(powers):
     """The five numbers of the powers n, d, each in lowest terms, so that the five have no common factor."""
     d = 1
@@ -141,11 +195,3 @@ def with_common_parts(powers):
         d = d * power[1] // common_factor(d, power[1])
     numbers = [power[0] * (d // power[1]) for power in powers]
     return (numbers[0], numbers[1], numbers[2], numbers[3], d)
-
-
-def is_within_bounds(numbers):
-    """Whether five numbers without a common factor are an interval."""
-    for power in numbers[:4]:
-        if abs(power) > MOST_POWER:
-            return False
-    return numbers[4] <= MOST_PARTS

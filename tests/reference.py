@@ -1,14 +1,19 @@
-"""What the document says of songs' texts, written once more in another way, for comparison.
+"""What the document says, written once more in another way, for comparison; and songs drawn by chance.
 
 Slow and plain: texts are split and matched by patterns, and ratios are compared as whole numbers.
 """
 
+import functools
 import re
+from fractions import Fraction
 from math import gcd, lcm
 
 LENGTHS = {"x": 1, "t": 2, "s": 4, "e": 8, "q": 16, "h": 32, "w": 64}
 LENGTHS.update({sign + ".": units * 3 // 2 for sign, units in list(LENGTHS.items()) if units > 1})
 SIGNS = {units: sign for sign, units in LENGTHS.items()}
+
+# The longest an interval's text can be: every power a minus sign, two digits and a d of two digits.
+LONGEST = "2^-99/23 3^-98/23 5^-97/23 7^-95/23"
 
 NUMBER = r"(?:0|[1-9][0-9]{0,3})"
 FACTOR = rf"[2357](?:\^(?:-[1-9][0-9]{{0,3}}|{NUMBER})(?:/{NUMBER})?)?"
@@ -176,3 +181,86 @@ def song_text(lines):
         rows.append(sign + " " + (", ".join(map(interval_text, notes)) or "."))
         before = length
     return "\n".join(rows) + "\n"
+
+
+def song_lines(text):
+    """The lines of a text that is a song's: None, a bar, or a length and its notes."""
+    lines = []
+    length = None
+    for row in text.split("\n")[1:-1]:
+        if row == "|":
+            lines.append(None)
+            continue
+        sign, _, notes = row.partition(" ")
+        length = LENGTHS.get(sign, length)
+        lines.append((length, [] if notes == "." else [interval_of(note) for note in notes.split(", ")]))
+    return lines
+
+
+def sum_of(x, y):
+    """The five numbers of x upon y, an interval or not."""
+    powers = [Fraction(a, x[4]) + Fraction(b, y[4]) for a, b in zip(x[:4], y[:4])]
+    d = lcm(*[power.denominator for power in powers])
+    return [int(power * d) for power in powers] + [d]
+
+
+def opposite(x):
+    return [-power for power in x[:4]] + [x[4]]
+
+
+def raised_answer(text, x):
+    """What raised answers of a text that is a song's."""
+    if len(x) != 5 or not is_interval(x):
+        return [-1]
+    lines = [line and (line[0], [sum_of(x, note) for note in line[1]]) for line in song_lines(text)]
+    if not all(is_interval(note) for line in lines if line for note in line[1]):
+        return [-3]
+    told = song_text(lines)
+    return [len(told)] + as_bytes(told)
+
+
+def line_answer(text, k):
+    """What line answers of a text that is a song's."""
+    lines = song_lines(text)
+    if k >= len(lines):
+        return [-4]
+    if lines[k] is None:
+        return [0]
+    length, notes = lines[k]
+    return [length, len(notes)] + sum(notes, [])
+
+
+def chance_power(chance):
+    kind = chance.randrange(4)
+    if kind == 0:
+        return 0
+    return chance.randint(-3, 3) if kind < 3 else chance.randint(-99, 99)
+
+
+def chance_interval(chance):
+    while True:
+        numbers = [chance_power(chance) for _ in range(4)] + [chance.choice((1, 1, 1, 2, 3, 4, 12, 23, 24))]
+        if is_interval(numbers):
+            return numbers
+
+
+def chance_song(chance):
+    lines = []
+    for _ in range(chance.randint(0, 6)):
+        notes = [chance_interval(chance) for _ in range(chance.choice((0, 1, 2, 3, 4, 14)))]
+        notes += notes[:chance.randint(0, 1)] if len(notes) < 14 else []
+        length = chance.choice(list(LENGTHS.values()))
+        lines.append(chance.choice((None, (length, sorted(notes, key=functools.cmp_to_key(compared))))))
+    lines.append((16, [[0, 0, 0, 0, 1]]))
+    chance.shuffle(lines)
+    return lines
+
+
+def of_bytes(count):
+    """A song's text of just so many bytes."""
+    text = "song\nq .\n"
+    while count - len(text) > 600:
+        text += " " + ", ".join([LONGEST] * 14) + "\n"
+    if (count - len(text)) % 2 == 1:
+        text += " .\n"
+    return text + "|\n" * ((count - len(text)) // 2)

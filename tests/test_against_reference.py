@@ -1,42 +1,14 @@
 """judge and sizes beside the reference: all short texts, and many songs with something changed in them."""
 
-import functools
 import itertools
 import random
 import unittest
 
 from lutesettings.songs import judge, sizes
 from lutesettings.songtexts import read_song
-from reference import (LENGTHS, as_bytes, compared, interval_fault, interval_of, interval_text, is_interval,
-                       song_fault, song_text)
+from reference import as_bytes, chance_song, interval_fault, interval_of, interval_text, song_fault, song_text
 
 FRONT = "song\nq "
-
-
-def chance_power(chance):
-    kind = chance.randrange(4)
-    if kind == 0:
-        return 0
-    return chance.randint(-3, 3) if kind < 3 else chance.randint(-99, 99)
-
-
-def chance_interval(chance):
-    while True:
-        numbers = [chance_power(chance) for _ in range(4)] + [chance.choice((1, 1, 1, 2, 3, 4, 12, 23, 24))]
-        if is_interval(numbers):
-            return numbers
-
-
-def chance_song(chance):
-    lines = []
-    for _ in range(chance.randint(0, 6)):
-        notes = [chance_interval(chance) for _ in range(chance.choice((0, 1, 2, 3, 4, 14)))]
-        notes += notes[:chance.randint(0, 1)] if len(notes) < 14 else []
-        length = chance.choice(list(LENGTHS.values()))
-        lines.append(chance.choice((None, (length, sorted(notes, key=functools.cmp_to_key(compared))))))
-    lines.append((16, [[0, 0, 0, 0, 1]]))
-    chance.shuffle(lines)
-    return lines
 
 
 def changed(text, chance):

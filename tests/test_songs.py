@@ -3,22 +3,10 @@
 import unittest
 
 from lutesettings.songs import judge, sizes
-from reference import as_bytes, song_fault
+from reference import LONGEST, as_bytes, of_bytes, song_fault
 
 SIGNS = (("x", 1), ("t", 2), ("s", 4), ("e", 8), ("q", 16), ("h", 32), ("w", 64),
          ("t.", 3), ("s.", 6), ("e.", 12), ("q.", 24), ("h.", 48), ("w.", 96))
-# The longest an interval's text can be: every power a minus sign, two digits and a d of two digits.
-LONGEST = "2^-99/23 3^-98/23 5^-97/23 7^-95/23"
-
-
-def of_bytes(count):
-    """A song's text of just so many bytes."""
-    text = "song\nq .\n"
-    while count - len(text) > 600:
-        text += " " + ", ".join([LONGEST] * 14) + "\n"
-    if (count - len(text)) % 2 == 1:
-        text += " .\n"
-    return text + "|\n" * ((count - len(text)) // 2)
 
 
 class Answers(unittest.TestCase):
