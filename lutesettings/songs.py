@@ -1,7 +1,10 @@
 """The calls. A refusal is a number below 0."""
 
 from lutesettings.cursors import Fault
+from lutesettings.instruments import read_instrument, song_of_piece
 from lutesettings.intervals import is_interval, is_within_bounds, upon
+from lutesettings.piecetexts import read_piece
+from lutesettings.placings import count_placings
 from lutesettings.songtexts import read_song, write_song
 
 BAD_NUMBERS = -1
@@ -9,8 +12,10 @@ TOO_LONG = -2
 CANNOT_BE = -3
 NO_SUCH_LINE = -4
 NO_FIRST_TEXT = -6
+NO_SECOND_TEXT = -8
 
 MOST_BYTES = 65536
+MOST_INSTRUMENT_BYTES = 4096
 
 
 def judge(s):
@@ -39,6 +44,18 @@ def raised(s, x):
     return asked_of_song(s, lambda lines: raised_text(lines, x))
 
 
+def of(i, t):
+    """The text of the song that the piece t sounds on the instrument i."""
+    if len(t) > MOST_BYTES or len(i) > MOST_INSTRUMENT_BYTES:
+        return [TOO_LONG]
+    return asked_of_texts(i, read_instrument, t, read_piece, sung_text)
+
+
+def ways(k, s, i):
+    """How many placings moment k of the song s has on the instrument i."""
+    return asked_of_setting(s, i, lambda lines, courses: ways_of_moment(lines, courses, k))
+
+
 def asked_of_song(s, answer):
     """What answer tells of the lines of the song s, or why there are none."""
     if len(s) > MOST_BYTES:
@@ -47,6 +64,24 @@ def asked_of_song(s, answer):
     if lines is None:
         return [NO_FIRST_TEXT]
     return answer(lines)
+
+
+def asked_of_setting(s, i, answer):
+    """What answer tells of the lines of the song s and the courses of the instrument i, or why there are none."""
+    if len(s) > MOST_BYTES or len(i) > MOST_INSTRUMENT_BYTES:
+        return [TOO_LONG]
+    return asked_of_texts(s, read_song, i, read_instrument, answer)
+
+
+def asked_of_texts(first, read_first, second, read_second, answer):
+    """What answer tells of what two texts tell, or which of them is at fault."""
+    told_first = read_or_none(read_first, first)
+    if told_first is None:
+        return [NO_FIRST_TEXT]
+    told_second = read_or_none(read_second, second)
+    if told_second is None:
+        return [NO_SECOND_TEXT]
+    return answer(told_first, told_second)
 
 
 def read_or_none(read, text):
@@ -90,6 +125,27 @@ def raised_text(lines, x):
             if not is_within_bounds(note):
                 return [CANNOT_BE]
     return told_text(write_song(higher))
+
+
+def sung_text(courses, lines):
+    """The answer that's the text of the song that a piece's lines sound on these courses."""
+    song = song_of_piece(courses, lines)
+    if song is None:
+        return [CANNOT_BE]
+    return told_text(write_song(song))
+
+
+def moments_of(lines):
+    """The notes of each moment."""
+    return [notes for length, notes in lines if length > 0]
+
+
+def ways_of_moment(lines, courses, k):
+    """The answer that's how many placings moment k has."""
+    moments = moments_of(lines)
+    if k >= len(moments):
+        return [NO_SUCH_LINE]
+    return [count_placings(courses, moments[k])]
 
 
 def told_text(text):

@@ -168,19 +168,23 @@ def interval_text(numbers):
     return " ".join(factors) or "1"
 
 
-def song_text(lines):
-    """The text of a song: lines are None, a bar, or a length and its notes in order."""
-    rows = ["song"]
+def text_of(first, lines, content_text):
+    """A text of lines, None or a length and its content, behind a first one."""
+    rows = [first]
     before = None
     for line in lines:
         if line is None:
             rows.append("|")
             continue
-        length, notes = line
-        sign = SIGNS[length] if length != before else ""
-        rows.append(sign + " " + (", ".join(map(interval_text, notes)) or "."))
+        length, content = line
+        rows.append((SIGNS[length] if length != before else "") + " " + content_text(content))
         before = length
     return "\n".join(rows) + "\n"
+
+
+def song_text(lines):
+    """The text of a song: lines are None, a bar, or a length and its notes in order."""
+    return text_of("song", lines, lambda notes: ", ".join(map(interval_text, notes)) or ".")
 
 
 def song_lines(text):
@@ -264,3 +268,209 @@ def of_bytes(count):
     if (count - len(text)) % 2 == 1:
         text += " .\n"
     return text + "|\n" * ((count - len(text)) // 2)
+
+
+def changed(text, chance, signs):
+    """The text with something put in, left out, put in another's place, told again, or with its end cut off."""
+    place = chance.randrange(len(text) + 1)
+    kind = chance.randrange(7)
+    if kind == 0:
+        return text[:place] + chance.choice(signs) + text[place:]
+    if kind == 1:
+        return text[:place] + text[place + 1:]
+    if kind == 2:
+        return text[:place] + chance.choice(signs) + text[place + 1:]
+    if kind == 3:
+        return text[:place]
+    if kind == 4:
+        return text[:place + chance.randint(1, 12)] + text[place:]
+    rows = text.split("\n")
+    row = chance.randrange(len(rows))
+    again = [chance.choice(rows)] if kind == 5 else []
+    return "\n".join(rows[:row] + again + rows[row + (kind == 6):])
+
+
+# Instruments, and what is played on them.
+
+INSTRUMENT = re.compile(
+    r"length ([1-9][0-9]{0,6})\n((?:fret [^\n]*\n)*)((?:course [^\n]*\n)+)((?:bass [^\n]*\n)*)")
+KINDS = ("french", "italian", "german")
+FRENCH_FRETS = "abcdefghiklmnopq"
+ITALIAN_FRETS = "0123456789xyzvuw"
+FRENCH_BASSES = {"a": 7, "/a": 8, "//a": 9, "///a": 10, "4": 11, "5": 12, "6": 13, "7": 14}
+ITALIAN_BASSES = {str(course): course for course in range(7, 15)}
+# The German crossings of the frets 1 to 5, each for the courses 5, 4, 3, 2, 1.
+CROSSINGS = ("abcde", "fghik", "lmnop", "qrstv", "xyz&9")
+GERMAN = {f"-{course}": (course, 0) for course in range(7, 15)}
+GERMAN.update({sign: (6, fret) for fret, sign in enumerate("+ABCDEFGHIKLMNOP")})
+GERMAN.update({sign: (course, 0) for course, sign in zip((1, 2, 3, 4, 5), "54321")})
+GERMAN.update({CROSSINGS[row][5 - course] * times: (course, 5 * (times - 1) + row + 1)
+               for row in range(5) for course in range(1, 6) for times in (1, 2, 3)})
+GERMAN_SIGNS = {stop: sign for sign, stop in GERMAN.items()}
+
+
+def instrument_text(frets, courses, basses, length=60000):
+    """The text of an instrument whose intervals are texts."""
+    rows = [f"length {length}"]
+    rows += ["fret " + fret for fret in frets]
+    rows += ["course " + course for course in courses]
+    rows += ["bass " + bass for bass in basses]
+    return "\n".join(rows) + "\n"
+
+
+@functools.lru_cache(maxsize=8)
+def places_of(text):
+    """What each stop sounds that can be on an instrument, {(course, fret): numbers}; None if the text is none."""
+    form = INSTRUMENT.fullmatch(text)
+    if form is None or not 10000 <= int(form[1]) <= 200000:
+        return None
+    told = [[row.partition(" ")[2] for row in part.split("\n")[:-1]] for part in form.groups()[1:]]
+    if any(interval_fault(note) is not None for part in told for note in part):
+        return None
+    frets, courses, basses = [[interval_of(note) for note in part] for part in told]
+    if len(frets) > 15 or len(courses) + len(basses) > 14:
+        return None
+    rising = [[0, 0, 0, 0, 1]] + frets
+    if any(compared(fret, before) <= 0 for before, fret in zip(rising, frets)):
+        return None
+    sounds = {(c, f): sum_of(course, fret) for c, course in enumerate(courses, 1) for f, fret in enumerate(rising)}
+    if not all(is_interval(sound) for sound in sounds.values()):
+        return None
+    sounds.update({(c, 0): bass for c, bass in enumerate(basses, len(courses) + 1)})
+    return {stop: sound for stop, sound in sounds.items() if stop[0] <= 6 or stop[1] == 0}
+
+
+def french_stops(told):
+    form = re.fullmatch(r"([a-ik-q.]{6})((?: (?:/{0,3}a|[4-7]))*)", told)
+    if form is None:
+        return None
+    stops = [(c, FRENCH_FRETS.index(sign)) for c, sign in enumerate(form[1], 1) if sign != "."]
+    return stops + [(FRENCH_BASSES[sign], 0) for sign in form[2].split(" ")[1:]]
+
+
+def italian_stops(told):
+    form = re.fullmatch(r"([0-9xyzvuw.]{6})((?: (?:[789]|1[0-4]))*)", told)
+    if form is None:
+        return None
+    stops = [(c, ITALIAN_FRETS.index(sign)) for c, sign in enumerate(reversed(form[1]), 1) if sign != "."]
+    return stops + [(ITALIAN_BASSES[sign], 0) for sign in form[2].split(" ")[1:]]
+
+
+def german_stops(told):
+    if told == ".":
+        return []
+    if any(sign not in GERMAN for sign in told.split(" ")):
+        return None
+    return [GERMAN[sign] for sign in told.split(" ")]
+
+
+def piece_lines(text):
+    """The lines of a piece's text: None, a bar, or a length and its stops; None of a text that is none."""
+    first, *rows, last = text.split("\n") if "\n" in text else ("", "")
+    if first not in KINDS or last != "" or len(rows) > 512 or not [row for row in rows if row != "|"]:
+        return None
+    read = (french_stops, italian_stops, german_stops)[KINDS.index(first)]
+    lines = []
+    before = None
+    for row in rows:
+        if row == "|":
+            lines.append(None)
+            continue
+        sign, blank, told = row.partition(" ")
+        if not blank or sign not in LENGTHS and sign != "" or LENGTHS.get(sign) == before:
+            return None
+        before = LENGTHS.get(sign, before)
+        stops = read(told)
+        if stops is None or [stop[0] for stop in stops] != sorted({stop[0] for stop in stops}):
+            return None
+        lines.append((before, stops))
+    return lines
+
+
+def stops_text(kind, stops):
+    """A moment's stops in a text of this kind."""
+    if kind == 2:
+        return " ".join(GERMAN_SIGNS[stop] for stop in stops) or "."
+    frets = FRENCH_FRETS if kind == 0 else ITALIAN_FRETS
+    basses = FRENCH_BASSES if kind == 0 else ITALIAN_BASSES
+    upper = ["."] * 6
+    for course, fret in stops:
+        if course <= 6:
+            upper[course - 1] = frets[fret]
+    if kind == 1:
+        upper.reverse()
+    lower = [sign for sign, course in basses.items() if (course, 0) in stops]
+    return " ".join(["".join(upper)] + lower)
+
+
+def piece_text(kind, lines):
+    """The text of a piece in this kind."""
+    return text_of(KINDS[kind], lines, lambda stops: stops_text(kind, stops))
+
+
+def in_order(notes):
+    return sorted(notes, key=functools.cmp_to_key(compared))
+
+
+def song_of(places, lines):
+    """The text of the song that a piece sounds; None if it doesn't fit."""
+    moments = [line for line in lines if line is not None]
+    if any(stop not in places for _, stops in moments for stop in stops):
+        return None
+    return song_text([line and (line[0], in_order([places[stop] for stop in line[1]])) for line in lines])
+
+
+def of_answer(instrument, piece):
+    """What of answers of texts that aren't too long."""
+    places = places_of(instrument)
+    if places is None:
+        return [-6]
+    lines = piece_lines(piece)
+    if lines is None:
+        return [-8]
+    song = song_of(places, lines)
+    return [-3] if song is None else [len(song)] + as_bytes(song)
+
+
+def placings_of(places, notes):
+    """The placings of a moment's notes, in their order: a note after another to any course that's free."""
+    found = {()}
+    for note in notes:
+        here = [stop for stop, sound in places.items() if sound == note]
+        found = {tuple(sorted(stops + (stop,))) for stops in found for stop in here
+                 if stop[0] not in [other[0] for other in stops]}
+    return sorted(found, key=lambda stops: [dict(stops).get(course, 99) for course in range(1, 15)])
+
+
+def chance_instrument(chance, most_frets=15, most_courses=14):
+    """An instrument's text; its strings lie near one another, so that notes are had in several places."""
+    d = chance.choice((1, 2, 5, 12, 12, 12, 24))
+    steps = sorted(chance.sample(range(1, 19), chance.randint(0, most_frets)))
+    if chance.random() < 0.5:
+        steps = list(range(1, len(steps) + 1))
+    count = chance.randint(1, most_courses)
+    courses = chance.choice((count, chance.randint(1, count)))
+    strings = [chance.randint(-9, 9) for _ in range(count)]
+    if chance.random() < 0.3:
+        strings = [strings[0]] * count
+    told = {step: interval_text(sum_of([step, 0, 0, 0, d], [0, 0, 0, 0, 1])) for step in steps + strings}
+    return instrument_text([told[step] for step in steps], [told[string] for string in strings[:courses]],
+                           [told[string] for string in strings[courses:]])
+
+
+def chance_stops(chance, places):
+    """Some places on different courses."""
+    courses = sorted({course for course, _ in places})
+    taken = sorted(chance.sample(courses, chance.randint(0, len(courses))))
+    return [(course, chance.choice([f for c, f in places if c == course])) for course in taken]
+
+
+def chance_piece(chance, places, moments=6):
+    """The lines of a piece that fits."""
+    lines = []
+    for _ in range(chance.randint(0, moments - 1)):
+        length = chance.choice(list(LENGTHS.values()))
+        lines.append(chance.choice((None, (length, chance_stops(chance, places)), (16, chance_stops(chance, places)))))
+    lines.append((16, chance_stops(chance, places)))
+    chance.shuffle(lines)
+    return lines

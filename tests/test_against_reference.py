@@ -6,32 +6,14 @@ import unittest
 
 from lutesettings.songs import judge, sizes
 from lutesettings.songtexts import read_song
-from reference import as_bytes, chance_song, interval_fault, interval_of, interval_text, song_fault, song_text
+from reference import as_bytes, chance_song, changed, interval_fault, interval_of, interval_text, song_fault, song_text
 
 FRONT = "song\nq "
 
 
-def changed(text, chance):
-    """The text with a byte or two put in, left out, put in another's place, or with a part told again."""
-    for _ in range(chance.randint(1, 2)):
-        place = chance.randrange(len(text) + 1)
-        byte = chance.choice("0123456789^-/ ,.|\nxtseqhwZ")
-        kind = chance.randrange(5)
-        if kind == 0:
-            text = text[:place] + byte + text[place:]
-        elif kind == 1:
-            text = text[:place] + text[place + 1:]
-        elif kind == 2:
-            text = text[:place] + byte + text[place + 1:]
-        elif kind == 3:
-            text = text[:place]
-        else:
-            end = place + chance.randint(1, 12)
-            text = text[:end] + text[place:]
-    return text
-
-
 class Beside(unittest.TestCase):
+    SIGNS = "0123456789^-/ ,.|\nxtseqhwZ"
+
     def check(self, text):
         fault = song_fault(text)
         answer = judge(as_bytes(text))
@@ -69,8 +51,9 @@ class Beside(unittest.TestCase):
             text = song_text(chance_song(chance))
             self.assertIsNone(song_fault(text))
             self.check(text)
-            for _ in range(4):
-                self.check(changed(text, chance))
+            for _ in range(2):
+                self.check(changed(changed(text, chance, self.SIGNS), chance, self.SIGNS))
+                self.check(changed(text, chance, self.SIGNS))
 
     def test_a_song_cut_anywhere(self):
         chance = random.Random(7)
