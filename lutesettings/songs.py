@@ -1,10 +1,13 @@
 """The calls. A refusal is a number below 0."""
 
 from lutesettings.cursors import Fault
+from lutesettings.hands import Hand
+from lutesettings.holds import holds_of
 from lutesettings.instruments import read_instrument, song_of_piece
 from lutesettings.intervals import is_interval, is_within_bounds, upon
-from lutesettings.piecetexts import read_piece
+from lutesettings.piecetexts import KIND_NAMES, read_piece, write_piece
 from lutesettings.placings import count_placings
+from lutesettings.settings import Settings, stances_of
 from lutesettings.songtexts import read_song, write_song
 
 BAD_NUMBERS = -1
@@ -13,9 +16,14 @@ CANNOT_BE = -3
 NO_SUCH_LINE = -4
 NO_FIRST_TEXT = -6
 NO_SECOND_TEXT = -8
+TOO_MANY_HOLDS = -9
 
 MOST_BYTES = 65536
 MOST_INSTRUMENT_BYTES = 4096
+WEIGHTS = 9
+MOST_WEIGHT = 255
+MOST_HOLDS = 1000
+MOST_COUNTED = 1000000000
 
 
 def judge(s):
@@ -53,7 +61,17 @@ def of(i, t):
 
 def ways(k, s, i):
     """How many placings moment k of the song s has on the instrument i."""
-    return asked_of_setting(s, i, lambda lines, courses: ways_of_moment(lines, courses, k))
+    return asked_of_song_and_instrument(s, i, lambda lines, courses: ways_of_moment(lines, courses, k))
+
+
+def best(kind, s, i, w):
+    """What the cheapest settings of the song s on the instrument i cost; the first one's piece, in this kind."""
+    return asked_of_song_and_instrument(s, i, lambda lines, courses: best_setting(kind, lines, courses, w))
+
+
+def many(s, i, w):
+    """What the cheapest settings of the song s on the instrument i cost, and how many there are."""
+    return asked_of_song_and_instrument(s, i, lambda lines, courses: count_of_best(lines, courses, w))
 
 
 def asked_of_song(s, answer):
@@ -66,7 +84,7 @@ def asked_of_song(s, answer):
     return answer(lines)
 
 
-def asked_of_setting(s, i, answer):
+def asked_of_song_and_instrument(s, i, answer):
     """What answer tells of the lines of the song s and the courses of the instrument i, or why there are none."""
     if len(s) > MOST_BYTES or len(i) > MOST_INSTRUMENT_BYTES:
         return [TOO_LONG]
@@ -146,6 +164,57 @@ def ways_of_moment(lines, courses, k):
     if k >= len(moments):
         return [NO_SUCH_LINE]
     return [count_placings(courses, moments[k])]
+
+
+def best_setting(kind, lines, courses, w):
+    """The answer that's the least cost and the text of the first setting's piece."""
+    if kind >= len(KIND_NAMES):
+        return [BAD_NUMBERS]
+    return asked_of_settings(lines, courses, w, lambda settings: told_setting(kind, lines, settings))
+
+
+def count_of_best(lines, courses, w):
+    """The answer that's the least cost and how many settings have it."""
+    return asked_of_settings(
+        lines, courses, w, lambda settings: [settings.least_cost(), min(settings.how_many(), MOST_COUNTED)])
+
+
+def asked_of_settings(lines, courses, w, answer):
+    """What answer tells of the settings of a song's lines on these courses, or why there are none."""
+    if not are_weights(w):
+        return [BAD_NUMBERS]
+    holds = holds_of_moments(courses, moments_of(lines))
+    if max([len(held) for held in holds]) > MOST_HOLDS:
+        return [TOO_MANY_HOLDS]
+    if [] in holds:
+        return [CANNOT_BE]
+    return answer(Settings([stances_of(held, w) for held in holds], w))
+
+
+def are_weights(w):
+    """Whether these are nine weights."""
+    return len(w) == WEIGHTS and max(w) <= MOST_WEIGHT
+
+
+def holds_of_moments(courses, moments):
+    """The holds of each moment; of moments with the same notes they are looked for only once."""
+    hand = Hand()
+    known = {}
+    for notes in moments:
+        key = tuple(notes)
+        if key not in known:
+            known[key] = holds_of(courses, notes, hand, MOST_HOLDS)
+    return [known[tuple(notes)] for notes in moments]
+
+
+def told_setting(kind, lines, settings):
+    """The least cost, and the text of the piece of the first setting that has it."""
+    placings = settings.first_placings()
+    piece = []
+    for length, notes in lines:
+        stops = list(placings.pop(0)) if length > 0 else []
+        piece.append((length, stops))
+    return [settings.least_cost()] + told_text(write_piece(kind, piece))
 
 
 def told_text(text):

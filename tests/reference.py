@@ -4,6 +4,7 @@ Slow and plain: texts are split and matched by patterns, and ratios are compared
 """
 
 import functools
+import itertools
 import re
 from fractions import Fraction
 from math import gcd, lcm
@@ -474,3 +475,115 @@ def chance_piece(chance, places, moments=6):
     lines.append((16, chance_stops(chance, places)))
     chance.shuffle(lines)
     return lines
+
+
+# Hands and settings.
+
+def is_grip(held, position, fingers):
+    """Whether these fingers at this position are a grip of the held stops."""
+    told = list(zip(held, fingers))
+    for (_, fret), finger in told:
+        if not position + finger - 2 <= fret <= position + finger:
+            return False
+    for (stop, f), (other, g) in itertools.combinations(told, 2):
+        if f == g and (f != 1 or stop[1] != other[1]):
+            return False
+    for (stop, f), (other, g) in itertools.permutations(told, 2):
+        if f < g and (stop[1] > other[1] or stop[1] == other[1] and stop[0] < other[0]):
+            return False
+    return True
+
+
+@functools.lru_cache(maxsize=100000)
+def grips_of(held):
+    """The grips of held stops in their order: position and fingers."""
+    return [(position, fingers) for position in range(1, 16)
+            for fingers in itertools.product((1, 2, 3, 4), repeat=len(held)) if is_grip(held, position, fingers)]
+
+
+def held_of(placing):
+    return tuple(stop for stop in placing if stop[1] > 0)
+
+
+def holds_of(places, notes):
+    """The holds of a moment in their order: placing, position and fingers."""
+    return [(placing,) + grip for placing in placings_of(places, notes) for grip in grips_of(held_of(placing))]
+
+
+def stopped_by(hold, finger):
+    return {stop for stop, given in zip(held_of(hold[0]), hold[2]) if given == finger}
+
+
+def hold_cost(hold, weights):
+    """What a hold's grip costs."""
+    cost = 0
+    for finger in (1, 2, 3, 4):
+        stops = stopped_by(hold, finger)
+        if stops:
+            (fret,) = {stop[1] for stop in stops}
+            cost += weights[finger] + weights[5] * abs(fret - (hold[1] + finger - 1))
+            cost += weights[6] * (len(stops) > 1)
+    return cost
+
+
+def going_cost(hold, after, weights):
+    """What it costs to go from a hold to the one after it."""
+    cost = weights[0] * abs(hold[1] - after[1])
+    for finger in (1, 2, 3, 4):
+        first, second = stopped_by(hold, finger), stopped_by(after, finger)
+        cost += weights[7] * bool(first and second and not first & second)
+    return cost
+
+
+def setting_cost(setting, weights):
+    """What a setting, a row of holds, costs."""
+    return (sum(hold_cost(hold, weights) for hold in setting)
+            + sum(going_cost(hold, after, weights) for hold, after in zip(setting, setting[1:]))
+            + weights[8] * (setting[0][1] - 1))
+
+
+def settings_found(holds, weights):
+    """The least cost, how many settings have it, and the first of these, by a search through all settings."""
+    least = count = first = None
+    for setting in itertools.product(*holds):
+        cost = setting_cost(setting, weights)
+        if least is None or cost < least:
+            least, count, first = cost, 0, setting
+        count += cost == least
+    return least, count, first
+
+
+def best_answers(song, instrument, weights, search=settings_found):
+    """What best answers in the three kinds and what many answers, of right texts and weights."""
+    places = places_of(instrument)
+    lines = song_lines(song)
+    holds = [holds_of(places, line[1]) for line in lines if line is not None]
+    if max(map(len, holds)) > 1000:
+        return [[-9]] * 3, [-9]
+    if not all(holds):
+        return [[-3]] * 3, [-3]
+    least, count, first = search(holds, weights)
+    rest = iter(first)
+    piece = [line and (line[0], list(next(rest)[0])) for line in lines]
+    texts = [piece_text(kind, piece) for kind in range(3)]
+    return [[least, len(text)] + as_bytes(text) for text in texts], [least, min(count, 10 ** 9)]
+
+
+def settings_by_pairs(holds, weights):
+    """As settings_found, but moment by moment, from the last hold back: for more holds."""
+    costs = [hold_cost(hold, weights) for hold in holds[-1]]
+    counts = [1] * len(holds[-1])
+    rests = [(holds[-1], costs)]
+    for moment in reversed(holds[:-1]):
+        after, behind, ways = holds[len(holds) - len(rests)], costs, counts
+        goings = [[going_cost(hold, other, weights) + rest for other, rest in zip(after, behind)] for hold in moment]
+        leasts = [min(row) for row in goings]
+        counts = [sum(way for way, cost in zip(ways, row) if cost == least) for least, row in zip(leasts, goings)]
+        costs = [hold_cost(hold, weights) + least for hold, least in zip(moment, leasts)]
+        rests.insert(0, (moment, costs))
+    firsts = [cost + weights[8] * (hold[1] - 1) for hold, cost in zip(holds[0], costs)]
+    setting = [holds[0][firsts.index(min(firsts))]]
+    for moment, costs in rests[1:]:
+        goings = [going_cost(setting[-1], hold, weights) + cost for hold, cost in zip(moment, costs)]
+        setting.append(moment[goings.index(min(goings))])
+    return min(firsts), sum(way for way, cost in zip(counts, firsts) if cost == min(firsts)), tuple(setting)
