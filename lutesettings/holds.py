@@ -36,3 +36,17 @@ class HoldSearch:
 def holds_of(courses, notes, hand, most):
     """The holds of a moment's notes in their order; if there are more than most, more than most of them."""
     return HoldSearch(courses, notes, hand, most).holds
+
+
+def can_be_held(courses, notes, hand):
+    """Whether a moment's notes have a hold."""
+    # A course that's open alone may always take its note: then no more is held than before, and a grip stays
+    # one. So what such courses can take needs no search, and few notes and courses are left.
+    left = list(notes)
+    stopped = []
+    for course in courses:
+        if len(course) > 1:
+            stopped.append(course)
+        elif course[0] in left:
+            left.remove(course[0])
+    return holds_of(stopped, left, hand, 0) != []

@@ -63,9 +63,9 @@ class WayOn:
 
     def totals(self, stance):
         """All that's to be paid behind this stance."""
-        return added(self.lower(stance.position, stance.touched), self.upper(stance.touched))
+        return added(self.lower_costs(stance.position, stance.touched), self.upper_costs(stance.touched))
 
-    def lower(self, position, touched):
+    def lower_costs(self, position, touched):
         """What the rest, the change of position, and the fingers 1 and 2 cost."""
         key = (position, touched[0], touched[1])
         if key not in self.known_lowers:
@@ -73,7 +73,7 @@ class WayOn:
             self.known_lowers[key] = added(self.near(position), moves)
         return self.known_lowers[key]
 
-    def upper(self, touched):
+    def upper_costs(self, touched):
         """What the fingers 3 and 4 cost."""
         key = (touched[2], touched[3])
         if key not in self.known_uppers:
@@ -116,7 +116,8 @@ class Settings:
         last = moments[-1]
         self.costs = [[stance.cost for stance in last]]
         self.counts = [[stance.times for stance in last]]
-        for stances, following in zip(list(reversed(moments))[1:], list(reversed(moments))):
+        backwards = list(reversed(moments))
+        for stances, following in zip(backwards[1:], backwards):
             self.add_before(stances, following)
         self.costs.reverse()
         self.counts.reverse()

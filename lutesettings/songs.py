@@ -2,7 +2,7 @@
 
 from lutesettings.cursors import Fault
 from lutesettings.hands import Hand
-from lutesettings.holds import holds_of
+from lutesettings.holds import can_be_held, holds_of
 from lutesettings.instruments import read_instrument, song_of_piece
 from lutesettings.intervals import is_interval, is_within_bounds, upon
 from lutesettings.piecetexts import KIND_NAMES, read_piece, write_piece
@@ -72,6 +72,11 @@ def best(kind, s, i, w):
 def many(s, i, w):
     """What the cheapest settings of the song s on the instrument i cost, and how many there are."""
     return asked_of_song_and_instrument(s, i, lambda lines, courses: count_of_best(lines, courses, w))
+
+
+def stuck(s, i):
+    """How many moments of the song s at most, from the first on, can be set on the instrument i."""
+    return asked_of_song_and_instrument(s, i, lambda lines, courses: [count_that_can_be_set(lines, courses)])
 
 
 def asked_of_song(s, answer):
@@ -203,7 +208,9 @@ def holds_of_moments(courses, moments):
     for notes in moments:
         key = tuple(notes)
         if key not in known:
-            known[key] = holds_of(courses, notes, hand, MOST_HOLDS)
+            # Whether there's a hold is soon told, but to go through all placings in vain takes long.
+            can_be = can_be_held(courses, notes, hand)
+            known[key] = holds_of(courses, notes, hand, MOST_HOLDS) if can_be else []
     return [known[tuple(notes)] for notes in moments]
 
 
@@ -215,6 +222,22 @@ def told_setting(kind, lines, settings):
         stops = list(placings.pop(0)) if length > 0 else []
         piece.append((length, stops))
     return [settings.least_cost()] + told_text(write_piece(kind, piece))
+
+
+def count_that_can_be_set(lines, courses):
+    """How many moments there are before the first that can't be held."""
+    # From any grip a hand can go to any other: moments can be set together if each can be by itself.
+    hand = Hand()
+    known = {}
+    count = 0
+    for notes in moments_of(lines):
+        key = tuple(notes)
+        if key not in known:
+            known[key] = can_be_held(courses, notes, hand)
+        if not known[key]:
+            return count
+        count += 1
+    return count
 
 
 def told_text(text):

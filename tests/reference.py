@@ -319,6 +319,25 @@ def instrument_text(frets, courses, basses, length=60000):
     return "\n".join(rows) + "\n"
 
 
+def step(number, parts=12):
+    """The text of so many parts of an octave."""
+    return interval_text(sum_of([number, 0, 0, 0, parts], [0, 0, 0, 0, 1]))
+
+
+def steps(*numbers):
+    return [step(number) for number in numbers]
+
+
+def strings(*numbers, basses=(), frets=15):
+    """An instrument with these open strings, in twelfths of an octave, and a fret at each."""
+    return instrument_text(steps(*range(1, frets + 1)), steps(*numbers), steps(*basses))
+
+
+def song_of_steps(*moments):
+    """A song of moments, each told by its notes in twelfths of an octave."""
+    return "song\nq " + "\n ".join(", ".join(steps(*sorted(notes))) or "." for notes in moments) + "\n"
+
+
 @functools.lru_cache(maxsize=8)
 def places_of(text):
     """What each stop sounds that can be on an instrument, {(course, fret): numbers}; None if the text is none."""
@@ -587,3 +606,14 @@ def settings_by_pairs(holds, weights):
         goings = [going_cost(setting[-1], hold, weights) + cost for hold, cost in zip(moment, costs)]
         setting.append(moment[goings.index(min(goings))])
     return min(firsts), sum(way for way, cost in zip(counts, firsts) if cost == min(firsts)), tuple(setting)
+
+
+def stuck_at(places, song):
+    """How many moments from the first on have a hold."""
+    count = 0
+    for line in song_lines(song):
+        if line is not None:
+            if not any(grips_of(held_of(placing)) for placing in placings_of(places, line[1])):
+                return count
+            count += 1
+    return count

@@ -9,11 +9,9 @@ from lutesettings.piecetexts import read_piece, write_piece
 from lutesettings.songs import judge, of
 from reference import (CROSSINGS, GERMAN, KINDS, LENGTHS, LONGEST, SIGNS, as_bytes, chance_instrument, chance_piece,
                        changed, in_order, instrument_text, interval_of, interval_text, of_answer, piece_lines,
-                       piece_text, places_of, song_lines, stops_text, sum_of)
+                       piece_text, places_of, song_lines, stops_text, strings)
 
-SEMITONES = [interval_text(sum_of([step, 0, 0, 0, 12], [0, 0, 0, 0, 1])) for step in range(16)]
-LUTE = instrument_text(SEMITONES[1:], ("2^2", "2^19/12", "2^7/6", "2^5/6", "2^5/12", "1"),
-                       ["2^-1/6", "2^-1/4", "2^-5/12", "2^-7/12", "2^-2/3", "2^-5/6", "2^-1", "2^-7/6"])
+LUTE = strings(24, 19, 14, 10, 5, 0, basses=(-2, -3, -5, -7, -8, -10, -12, -14))
 STRING = instrument_text((), ("1",), ())
 EMPTY = ("......", "......", ".")
 

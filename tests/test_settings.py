@@ -7,30 +7,11 @@ import unittest
 
 from lutesettings.hands import grips_at
 from lutesettings.songs import best, many, of, ways
-from reference import (as_bytes, best_answers, chance_instrument, chance_piece, grips_of, holds_of,
-                       instrument_text, interval_text, of_bytes, piece_text, places_of, settings_by_pairs,
-                       settings_found, song_lines, song_of, sum_of)
+from reference import (as_bytes, best_answers, chance_instrument, chance_piece, grips_of, holds_of, instrument_text,
+                       of_bytes, piece_text, places_of, settings_by_pairs, settings_found, song_lines, song_of,
+                       song_of_steps, strings)
 
 NOTHING = [0] * 9
-
-
-def step(number):
-    """The text of so many twelfths of an octave."""
-    return interval_text(sum_of([number, 0, 0, 0, 12], [0, 0, 0, 0, 1]))
-
-
-def steps(*numbers):
-    return [step(number) for number in numbers]
-
-
-def strings(*numbers, basses=(), frets=15):
-    """An instrument with these open strings, in twelfths of an octave, and a fret at each."""
-    return instrument_text(steps(*range(1, frets + 1)), steps(*numbers), steps(*basses))
-
-
-def song(*moments):
-    """A song of moments, each told by its notes in twelfths of an octave."""
-    return "song\nq " + "\n ".join(", ".join(steps(*notes)) or "." for notes in moments) + "\n"
 
 
 def weighed(**weights):
@@ -38,18 +19,17 @@ def weighed(**weights):
     return [weights.get(f"w{number}", 0) for number in range(9)]
 
 
-# Three courses with the same string; and moments with just so many holds on some instrument.
-UNISONS = strings(0, 0, 0)
+# Instruments, and moments that have just so many holds on them.
 JUST_1000 = (strings(1, 3, 4, 4, 2, 3, basses=(3, 6)), (3, 5, 6))
 JUST_1001 = (strings(1, 6, 0, 1, 1, 3, basses=(1, 5, 4)), (4, 6, 7))
 LUTE = strings(24, 19, 14, 10, 5, 0, basses=(-2, -3, -5, -7), frets=8)
 
 
 class Settings(unittest.TestCase):
-    def check(self, song_text, instrument, weights, cost, count, french=None):
+    def check(self, text, instrument, weights, cost, count, french=None):
         """The least cost, how many settings have it, and the first one's stops in a French text."""
-        s, i = as_bytes(song_text), as_bytes(instrument)
-        self.assertEqual(many(s, i, weights), [cost, count], (song_text, weights))
+        s, i = as_bytes(text), as_bytes(instrument)
+        self.assertEqual(many(s, i, weights), [cost, count], (text, weights))
         answer = best(0, s, i, weights)
         self.assertEqual(answer[:2], [cost, len(answer) - 2])
         self.assertEqual(of(i, answer[2:]), [len(s)] + s)
@@ -61,7 +41,7 @@ class Costs(Settings):
     """Each part of the costs by itself, by hand."""
 
     # At fret 5: finger f at one of three positions.
-    ONE = song((5,))
+    ONE = song_of_steps((5,))
 
     def test_each_finger(self):
         for finger in (1, 2, 3, 4):
@@ -73,109 +53,109 @@ class Costs(Settings):
 
     def test_no_weights(self):
         self.check(self.ONE, strings(0), NOTHING, 0, 12)
-        self.check(song((1,)), strings(0), NOTHING, 0, 2 + 1)
-        self.check(song((2,)), strings(0), NOTHING, 0, 3 + 2 + 1)
-        self.check(song((15,)), strings(0), NOTHING, 0, 2 + 3 + 3 + 3)
+        self.check(song_of_steps((1,)), strings(0), NOTHING, 0, 2 + 1)
+        self.check(song_of_steps((2,)), strings(0), NOTHING, 0, 3 + 2 + 1)
+        self.check(song_of_steps((15,)), strings(0), NOTHING, 0, 2 + 3 + 3 + 3)
 
     def test_a_finger_off_its_fret(self):
         self.check(self.ONE, strings(0), weighed(w5=1), 0, 4)
         # Each finger at its own fret once; at fret 1 only finger 1 can be.
-        self.check(song((1,)), strings(0), weighed(w1=200, w5=3), 3, 1)
-        self.check(song((1,)), strings(0), weighed(w2=200, w5=3), 0, 1)
-        self.check(song((1,)), strings(0), weighed(w1=2, w5=3), 2, 1)
+        self.check(song_of_steps((1,)), strings(0), weighed(w1=200, w5=3), 3, 1)
+        self.check(song_of_steps((1,)), strings(0), weighed(w2=200, w5=3), 0, 1)
+        self.check(song_of_steps((1,)), strings(0), weighed(w1=2, w5=3), 2, 1)
         # Frets 3 and 6 with fingers 1 and 3: one of both is off by one.
         only = weighed(w2=255, w4=255, w5=10)
-        self.check(song((3, 6)), strings(0, 0), only, 10, 4)
+        self.check(song_of_steps((3, 6)), strings(0, 0), only, 10, 4)
         # Frets 3 and 7: both are off by one.
-        self.check(song((3, 7)), strings(0, 0), only, 20, 2)
+        self.check(song_of_steps((3, 7)), strings(0, 0), only, 20, 2)
 
     def test_a_barre(self):
         alone = weighed(w1=7, w2=255, w3=255, w4=255, w5=100, w6=9)
-        self.check(song((5, 5)), strings(0, 0), alone, 16, 1, ["ff...."])
-        self.check(song((5, 5, 5)), strings(0, 0, 0), alone, 16, 1, ["fff..."])
-        self.check(song((5, 5)), strings(0, 0), NOTHING, 0, 11)
+        self.check(song_of_steps((5, 5)), strings(0, 0), alone, 16, 1, ["ff...."])
+        self.check(song_of_steps((5, 5, 5)), strings(0, 0, 0), alone, 16, 1, ["fff..."])
+        self.check(song_of_steps((5, 5)), strings(0, 0), NOTHING, 0, 11)
         # Off its fret it counts once.
-        self.check(song((5, 5)), strings(0, 0), weighed(w2=255, w3=255, w4=255, w5=2, w8=3), 11, 1)
+        self.check(song_of_steps((5, 5)), strings(0, 0), weighed(w2=255, w3=255, w4=255, w5=2, w8=3), 11, 1)
         # Without a barre: one finger each, the lower one on the greater course.
-        self.check(song((5, 5)), strings(0, 0), weighed(w6=1), 0, 8)
-        self.check(song((5, 5)), strings(0, 0), weighed(w5=1, w6=1), 1, 7)
+        self.check(song_of_steps((5, 5)), strings(0, 0), weighed(w6=1), 0, 8)
+        self.check(song_of_steps((5, 5)), strings(0, 0), weighed(w5=1, w6=1), 1, 7)
         # Finger 1 alone at a stop is none.
-        self.check(song((5,)), strings(0), weighed(w2=255, w3=255, w4=255, w6=50), 0, 3)
+        self.check(song_of_steps((5,)), strings(0), weighed(w2=255, w3=255, w4=255, w6=50), 0, 3)
 
     def test_going_between_positions(self):
         # From fret 1 at position 2 to fret 12 at position 8.
-        self.check(song((1,), (12,)), strings(0), weighed(w0=5), 30, 1)
-        self.check(song((12,), (1,)), strings(0), weighed(w0=5), 30, 1)
-        self.check(song((1,), (12,), (1,)), strings(0), weighed(w0=1), 12, 1)
-        self.check(song((5,), (6,)), strings(0), weighed(w0=1), 0, 2 * 1 + 3 * 2 + 3 * 3 + 2 * 3 + 1 * 2)
+        self.check(song_of_steps((1,), (12,)), strings(0), weighed(w0=5), 30, 1)
+        self.check(song_of_steps((12,), (1,)), strings(0), weighed(w0=5), 30, 1)
+        self.check(song_of_steps((1,), (12,), (1,)), strings(0), weighed(w0=1), 12, 1)
+        self.check(song_of_steps((5,), (6,)), strings(0), weighed(w0=1), 0, 2 * 1 + 3 * 2 + 3 * 3 + 2 * 3 + 1 * 2)
 
     def test_a_finger_that_moves(self):
         first = weighed(w2=255, w3=255, w4=255, w7=6)
-        self.check(song((5,), (6,)), strings(0), first, 6, 9)
+        self.check(song_of_steps((5,), (6,)), strings(0), first, 6, 9)
         # The same place: it stays.
-        self.check(song((5,), (5,)), strings(0), first, 0, 9)
+        self.check(song_of_steps((5,), (5,)), strings(0), first, 0, 9)
         # The same fret on another course is another place.
-        self.check(song((5,), (6,)), strings(0, 1), first, 6, 2 * 9 + 2 * 9)
+        self.check(song_of_steps((5,), (6,)), strings(0, 1), first, 6, 2 * 9 + 2 * 9)
         # Other fingers don't move.
-        self.check(song((5,), (6,)), strings(0), weighed(w7=1), 0, 144 - 36)
+        self.check(song_of_steps((5,), (6,)), strings(0), weighed(w7=1), 0, 144 - 36)
         # Something else between: what is stopped in neighbouring moments alone counts.
-        self.check(song((5,), (), (6,)), strings(0), first, 0, 9 * 15)
-        self.check(song((5,), (0,), (6,)), strings(0), first, 0, 9 * 15)
+        self.check(song_of_steps((5,), (), (6,)), strings(0), first, 0, 9 * 15)
+        self.check(song_of_steps((5,), (0,), (6,)), strings(0), first, 0, 9 * 15)
 
     def test_a_barre_that_moves(self):
         first = weighed(w2=255, w3=255, w4=255, w7=6)
         apart = strings(0, 24, 48)
         # A place that's in both is enough.
-        self.check(song((5, 29), (5,)), apart, first, 0, 9)
-        self.check(song((5, 29), (29,)), apart, first, 0, 9)
-        self.check(song((5, 29), (29, 53)), apart, first, 0, 9)
-        self.check(song((5, 29), (53,)), apart, first, 6, 9)
-        self.check(song((5, 29), (6, 30)), apart, first, 6, 9)
+        self.check(song_of_steps((5, 29), (5,)), apart, first, 0, 9)
+        self.check(song_of_steps((5, 29), (29,)), apart, first, 0, 9)
+        self.check(song_of_steps((5, 29), (29, 53)), apart, first, 0, 9)
+        self.check(song_of_steps((5, 29), (53,)), apart, first, 6, 9)
+        self.check(song_of_steps((5, 29), (6, 30)), apart, first, 6, 9)
 
     def test_the_first_position(self):
         self.check(self.ONE, strings(0), weighed(w8=4), 0, 1)
         self.check(self.ONE, strings(0), weighed(w4=255, w8=4), 4, 1)
         self.check(self.ONE, strings(0), weighed(w3=255, w4=255, w8=4), 8, 1)
-        self.check(song((5,), (5,)), strings(0), weighed(w2=255, w3=255, w4=255, w8=4), 12, 3)
-        self.check(song((), (5,)), strings(0), weighed(w2=255, w3=255, w4=255, w8=4), 0, 3)
+        self.check(song_of_steps((5,), (5,)), strings(0), weighed(w2=255, w3=255, w4=255, w8=4), 12, 3)
+        self.check(song_of_steps((), (5,)), strings(0), weighed(w2=255, w3=255, w4=255, w8=4), 0, 3)
 
     def test_nothing_held(self):
-        self.check(song(()), strings(0), NOTHING, 0, 15, ["......"])
-        self.check(song((0,)), strings(0), [255] * 9, 0, 1, ["a....."])
-        self.check(song((0, 0)), strings(0, 0), NOTHING, 0, 15)
-        self.check(song((), ()), strings(0), NOTHING, 0, 225)
-        self.check(song((), ()), strings(0), weighed(w0=1), 0, 15)
-        self.check(song((), ()), strings(0), weighed(w8=1), 0, 15)
-        self.check(song((), ()), strings(0), weighed(w0=1, w8=1), 0, 1)
+        self.check(song_of_steps(()), strings(0), NOTHING, 0, 15, ["......"])
+        self.check(song_of_steps((0,)), strings(0), [255] * 9, 0, 1, ["a....."])
+        self.check(song_of_steps((0, 0)), strings(0, 0), NOTHING, 0, 15)
+        self.check(song_of_steps((), ()), strings(0), NOTHING, 0, 225)
+        self.check(song_of_steps((), ()), strings(0), weighed(w0=1), 0, 15)
+        self.check(song_of_steps((), ()), strings(0), weighed(w8=1), 0, 15)
+        self.check(song_of_steps((), ()), strings(0), weighed(w0=1, w8=1), 0, 1)
         # Through a moment without notes the hand goes on its way.
-        self.check(song((1,), (), (12,)), strings(0), weighed(w0=5), 30, 7)
+        self.check(song_of_steps((1,), (), (12,)), strings(0), weighed(w0=5), 30, 7)
 
     def test_open_strings_beside_held_stops(self):
-        self.check(song((0, 5)), strings(0, 0), weighed(w5=1), 0, 8, ["af...."])
+        self.check(song_of_steps((0, 5)), strings(0, 0), weighed(w5=1), 0, 8, ["af...."])
 
 
 class Order(Settings):
     def test_placings(self):
         # A stop before none, of two the lower fret, at the first course where they differ.
-        self.check(song((3,)), strings(0, 0, 0), NOTHING, 0, 27, ["d....."])
-        self.check(song((3, 4)), strings(0, 1, 0), NOTHING, 0, self.count((3, 4), (0, 1, 0)), ["dd...."])
-        self.check(song((3,)), strings(4, 3, 2), NOTHING, 0, 18, [".a...."])
-        self.check(song((3, 5)), strings(5, 4, 3, 2), NOTHING, 0, self.count((3, 5), (5, 4, 3, 2)), ["a.a..."])
-        self.check(song((3,)), strings(0, 0, basses=(3,)), NOTHING, 0, 33, ["d....."])
-        self.check(song((3,)), strings(0, 0, basses=(3,)), weighed(w1=1, w2=1, w3=1, w4=1), 0, 15, ["..a..."])
+        self.check(song_of_steps((3,)), strings(0, 0, 0), NOTHING, 0, 27, ["d....."])
+        self.check(song_of_steps((3, 4)), strings(0, 1, 0), NOTHING, 0, self.count((3, 4), (0, 1, 0)), ["dd...."])
+        self.check(song_of_steps((3,)), strings(4, 3, 2), NOTHING, 0, 18, [".a...."])
+        self.check(song_of_steps((3, 5)), strings(5, 4, 3, 2), NOTHING, 0, self.count((3, 5), (5, 4, 3, 2)), ["a.a..."])
+        self.check(song_of_steps((3,)), strings(0, 0, basses=(3,)), NOTHING, 0, 33, ["d....."])
+        self.check(song_of_steps((3,)), strings(0, 0, basses=(3,)), weighed(w1=1, w2=1, w3=1, w4=1), 0, 15, ["..a..."])
 
     def count(self, notes, courses):
         places = places_of(strings(*courses))
-        return len(holds_of(places, song_lines(song(notes))[0][1]))
+        return len(holds_of(places, song_lines(song_of_steps(notes))[0][1]))
 
     def test_the_first_moment_counts_most(self):
         # Either moment can be on the first course, but not both with finger 1 still.
         weights = weighed(w2=255, w3=255, w4=255, w7=6)
-        self.check(song((3,), (3,)), strings(0, 0), weights, 0, 18, ["d.....", "d....."])
+        self.check(song_of_steps((3,), (3,)), strings(0, 0), weights, 0, 18, ["d.....", "d....."])
 
     def test_grips_do_not_change_the_text(self):
         places = places_of(LUTE)
-        text = song((24,), (10, 26), (), (5, 12, 24))
+        text = song_of_steps((24,), (10, 26), (), (5, 12, 24))
         for weights in (NOTHING, [1] * 9, weighed(w0=1, w7=2)):
             holds = [holds_of(places, line[1]) for line in song_lines(text)]
             found = settings_by_pairs(holds, weights)
@@ -195,7 +175,7 @@ class Order(Settings):
     def test_each_kind_of_text(self):
         # Courses far apart: each note is in one place alone.
         far = strings(60, 40, 20, 0, -20, -40, basses=(-60, -80, -96, 80, 84, 88, 92, 96))
-        text = song((-96, -80, -60, -40, -18, 1, 23, 61, 80, 84, 88, 92, 96))
+        text = song_of_steps((-96, -80, -60, -40, -18, 1, 23, 61, 80, 84, 88, 92, 96))
         for kind, told in ((0, "french\nq b.dbca a /a //a ///a 4 5 6 7\n"),
                            (1, "italian\nq 0213.1 7 8 9 10 11 12 13 14\n"),
                            (2, "german\nq e n b f + -7 -8 -9 -10 -11 -12 -13 -14\n")):
@@ -306,9 +286,10 @@ class Beside(unittest.TestCase):
             courses = [chance.randint(0, 9) for _ in range(chance.randint(1, 4))]
             instrument = strings(*courses, frets=chance.randint(0, 9))
             moments = [sorted(chance.randint(0, 14) for _ in range(chance.randint(0, 4))) for _ in range(2)]
-            holds = [len(holds_of(places_of(instrument), line[1])) for line in song_lines(song(*moments))]
+            holds = [len(holds_of(places_of(instrument), line[1])) for line in song_lines(song_of_steps(*moments))]
             if math.prod(holds) <= 1500:
-                seen.add(self.check(song(*moments), instrument, [chance.randint(0, 3) for _ in range(9)])[0] >= 0)
+                weights = [chance.randint(0, 3) for _ in range(9)]
+                seen.add(self.check(song_of_steps(*moments), instrument, weights)[0] >= 0)
         self.assertEqual(seen, {True, False})
 
 
@@ -319,7 +300,7 @@ class Edges(unittest.TestCase):
 
     def test_a_thousand_holds_and_one_more(self):
         for (instrument, notes), count in ((JUST_1000, 1000), (JUST_1001, 1001)):
-            text = song(notes)
+            text = song_of_steps(notes)
             self.assertEqual(len(holds_of(places_of(instrument), song_lines(text)[0][1])), count)
             answer, counted = self.answers(text, instrument, NOTHING)
             if count == 1000:
@@ -340,46 +321,46 @@ class Edges(unittest.TestCase):
     def test_too_many_holds_where_another_moment_has_none(self):
         instrument, notes = JUST_1001
         for moments in ((notes, (99,)), ((99,), notes), ((99,), (), notes, (98,)), ((1, 2, 3, 4, 5, 6, 7), notes)):
-            self.assertEqual(self.answers(song(*moments), instrument, NOTHING), ([-9], [-9]))
+            self.assertEqual(self.answers(song_of_steps(*moments), instrument, NOTHING), ([-9], [-9]))
         instrument, notes = JUST_1000
-        self.assertEqual(self.answers(song(notes, (99,)), instrument, NOTHING), ([-3], [-3]))
-        self.assertEqual(self.answers(song((99,), notes), instrument, NOTHING), ([-3], [-3]))
+        self.assertEqual(self.answers(song_of_steps(notes, (99,)), instrument, NOTHING), ([-3], [-3]))
+        self.assertEqual(self.answers(song_of_steps((99,), notes), instrument, NOTHING), ([-3], [-3]))
 
     def test_very_many_placings(self):
         # Each note on each course and on a bass: many thousands of placings.
         wide = strings(0, 0, 0, 0, 0, 0, basses=range(1, 9))
-        self.assertEqual(self.answers(song(range(1, 9)), wide, NOTHING), ([-9], [-9]))
+        self.assertEqual(self.answers(song_of_steps(range(1, 9)), wide, NOTHING), ([-9], [-9]))
         # Most of them can't be gripped.
-        self.assertEqual(self.answers(song((1, 5, 9, 10, 11, 12, 13, 14, 15)), wide, NOTHING)[1][0], -3)
+        self.assertEqual(self.answers(song_of_steps((1, 5, 9, 10, 11, 12, 13, 14, 15)), wide, NOTHING)[1][0], -3)
 
     def test_counts_at_their_bound(self):
         instrument, notes = JUST_1000
-        self.assertEqual(self.answers(song(notes, notes), instrument, NOTHING)[1], [0, 1000000])
-        self.assertEqual(self.answers(song(notes, notes, notes), instrument, NOTHING)[1], [0, 1000000000])
-        self.assertEqual(self.answers(song(notes, notes, notes, notes), instrument, NOTHING)[1], [0, 1000000000])
+        for moments, count in ((1, 1000), (2, 1000000), (3, 1000000000), (4, 1000000000), (12, 1000000000)):
+            text = song_of_steps(*[notes] * moments)
+            self.assertEqual(self.answers(text, instrument, NOTHING)[1], [0, count])
         one = strings(0)
         for moments in range(1, 13):
             counted = min(15 ** moments, 10 ** 9)
-            self.assertEqual(self.answers(song(*[(0,)] * moments), one, NOTHING)[1], [0, counted])
-        self.assertEqual(self.answers(song(*[()] * 7 + [(5,)]), one, NOTHING)[1], [0, 10 ** 9])
-        self.assertEqual(self.answers(song(*[()] * 6 + [(5,)]), one, NOTHING)[1], [0, 12 * 15 ** 6])
+            self.assertEqual(self.answers(song_of_steps(*[(0,)] * moments), one, NOTHING)[1], [0, counted])
+        self.assertEqual(self.answers(song_of_steps(*[()] * 7 + [(5,)]), one, NOTHING)[1], [0, 10 ** 9])
+        self.assertEqual(self.answers(song_of_steps(*[()] * 6 + [(5,)]), one, NOTHING)[1], [0, 12 * 15 ** 6])
         # Just below the bound nothing is cut.
         fewer = (3, 6)
-        count = self.answers(song(fewer), instrument, NOTHING)[1][1]
+        count = self.answers(song_of_steps(fewer), instrument, NOTHING)[1][1]
         self.assertTrue(100 < count < 1000)
-        self.assertEqual(self.answers(song(notes, notes, fewer), instrument, NOTHING)[1], [0, 10 ** 6 * count])
+        self.assertEqual(self.answers(song_of_steps(notes, notes, fewer), instrument, NOTHING)[1], [0, 10 ** 6 * count])
 
     def test_twelve_moments_with_many_holds(self):
         instrument = strings(3, 2, 2, 1, 1, 3)
         moments = [[number + by for number in (7, 8, 9, 11)] for by in (0, 1, 2, 3, 4, 5)] * 2
         for weights in (NOTHING, [3, 1, 2, 3, 4, 5, 6, 7, 8]):
-            answer, counted = self.answers(song(*moments), instrument, weights)
+            answer, counted = self.answers(song_of_steps(*moments), instrument, weights)
             self.assertEqual(answer[0], counted[0])
-            text = song(*moments)
+            text = song_of_steps(*moments)
             self.assertEqual(of(as_bytes(instrument), answer[2:]), [len(text)] + as_bytes(text))
 
     def test_the_greatest_costs(self):
-        text = song(*[(1,), (15,)] * 6)
+        text = song_of_steps(*[(1,), (15,)] * 6)
         answer, counted = self.answers(text, strings(0), [255] * 9)
         holds = [holds_of(places_of(strings(0)), line[1]) for line in song_lines(text)]
         self.assertEqual(counted, list(settings_by_pairs(holds, [255] * 9)[:2]))
@@ -388,19 +369,19 @@ class Edges(unittest.TestCase):
     def test_no_setting(self):
         lute = strings(0, 5, 10, frets=9)
         for moments in (((99,),), ((0,), (99,)), ((99,), (0,)), ((0, 1, 2, 3),), ((0, 0),), ((), (-1,), ())):
-            self.assertEqual(self.answers(song(*moments), lute, NOTHING), ([-3], [-3]))
+            self.assertEqual(self.answers(song_of_steps(*moments), lute, NOTHING), ([-3], [-3]))
         # Placed, but not gripped: frets too far apart; more fingers than there are.
         apart = strings(0, 24, frets=15)
-        self.assertEqual(ways(0, as_bytes(song((1, 31))), as_bytes(apart)), [1])
-        self.assertEqual(self.answers(song((1, 31)), apart, NOTHING), ([-3], [-3]))
-        self.assertEqual(self.answers(song((1, 30)), apart, NOTHING)[1], [0, 1])
+        self.assertEqual(ways(0, as_bytes(song_of_steps((1, 31))), as_bytes(apart)), [1])
+        self.assertEqual(self.answers(song_of_steps((1, 31)), apart, NOTHING), ([-3], [-3]))
+        self.assertEqual(self.answers(song_of_steps((1, 30)), apart, NOTHING)[1], [0, 1])
         five = strings(0, 20, 40, 60, 80)
         for notes, playable in (((1, 22, 43, 64), True), ((1, 22, 43, 64, 85), False), ((1, 21, 42, 63, 84), True)):
-            self.assertEqual(ways(0, as_bytes(song(notes)), as_bytes(five)), [1])
-            self.assertEqual(self.answers(song(notes), five, NOTHING) != ([-3], [-3]), playable, notes)
+            self.assertEqual(ways(0, as_bytes(song_of_steps(notes)), as_bytes(five)), [1])
+            self.assertEqual(self.answers(song_of_steps(notes), five, NOTHING) != ([-3], [-3]), playable, notes)
 
     def test_weights_that_are_none(self):
-        text = song((5,))
+        text = song_of_steps((5,))
         for weights in ([], [0] * 8, [0] * 10, [0] * 12, [0] * 8 + [256], [256] + [0] * 8, [2147483647] * 9,
                         [0, 0, 0, 0, 256, 0, 0, 0, 0], [0] * 9 + [256], [1], [255] * 8, [2147483647]):
             self.assertEqual(self.answers(text, strings(0), weights), ([-1], [-1]), weights)
@@ -410,7 +391,7 @@ class Edges(unittest.TestCase):
             self.assertGreaterEqual(counted[0], 0)
 
     def test_kinds(self):
-        s, i = as_bytes(song((5,))), as_bytes(strings(0))
+        s, i = as_bytes(song_of_steps((5,))), as_bytes(strings(0))
         for kind, text in enumerate(("french\nq f.....\n", "italian\nq .....5\n", "german\nq 9\n")):
             self.assertEqual(best(kind, s, i, NOTHING), [0, len(text)] + as_bytes(text))
         for kind in (3, 4, 255, 2147483647):
@@ -420,7 +401,8 @@ class Edges(unittest.TestCase):
         long_song, long_instrument = as_bytes(of_bytes(65537)), [10] * 4097
         no_song, no_instrument = as_bytes("song\n"), as_bytes("length 60000\n")
         instrument, notes = JUST_1001
-        crowded, unplayable, lute = as_bytes(song(notes, (99,))), as_bytes(song((99,))), as_bytes(instrument)
+        crowded, unplayable = as_bytes(song_of_steps(notes, (99,))), as_bytes(song_of_steps((99,)))
+        lute = as_bytes(instrument)
         bad, good = [256] * 9, [0] * 9
         for kind, w in itertools.product((0, 3), (bad, good)):
             for s, i, refusal in ((long_song, lute, -2), (long_song, no_instrument, -2), (no_song, long_instrument, -2),
@@ -450,7 +432,8 @@ class Edges(unittest.TestCase):
 
 
 class EveryCall(unittest.TestCase):
-    SONGS = (song((5,), (), (3, 7)), song((99,)), song(JUST_1001[1]), "song\nq 2, 1\n", "", of_bytes(65537))
+    SONGS = (song_of_steps((5,), (), (3, 7)), song_of_steps((99,)), song_of_steps(JUST_1001[1]), "song\nq 2, 1\n", "",
+             of_bytes(65537))
     INSTRUMENTS = (strings(0, 0), JUST_1001[0], "", " " * 4097)
     WEIGHTS = ([1] * 9, [0] * 9, [256] * 9, [])
 

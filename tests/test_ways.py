@@ -7,17 +7,7 @@ from math import comb, perm
 
 from lutesettings.songs import of, ways
 from reference import (as_bytes, chance_instrument, chance_piece, instrument_text, interval_text, of_bytes, piece_text,
-                       places_of, placings_of, song_lines, sum_of)
-
-
-def step(number, parts=12):
-    """The text of so many parts of an octave."""
-    return interval_text(sum_of([number, 0, 0, 0, parts], [0, 0, 0, 0, 1]))
-
-
-def steps(*numbers):
-    return [step(number) for number in numbers]
-
+                       places_of, placings_of, song_lines, step, steps)
 
 # Frets at every step; courses five and four steps apart; basses below them.
 LUTE = instrument_text(steps(*range(1, 13)), steps(24, 19, 14, 10, 5, 0), steps(-2, -3, -5, -7))
