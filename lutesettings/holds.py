@@ -27,7 +27,7 @@ class HoldSearch:
         if self.placings.count_from(course, left) == 0:
             return
         for fret, unit, mask in self.placings.choices[course]:
-            if left & mask != 0:
+            if (left & mask) != 0:
                 held = frets + (fret,) if fret > 0 else frets
                 self.go_on(course + 1, left - unit, stops + ((course + 1, fret),), held)
         self.go_on(course + 1, left, stops, frets)

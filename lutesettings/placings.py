@@ -21,13 +21,13 @@ class Placings:
         """In how many ways what's left of the notes can be had on the courses from this one (from 0) on."""
         if left == 0:
             return 1
-        if left & PART_MASK > len(self.choices) - course:
+        if (left & PART_MASK) > len(self.choices) - course:
             return 0
         key = (course, left)
         if key not in self.counted:
             count = self.count_from(course + 1, left)
             for fret, unit, mask in self.choices[course]:
-                if left & mask != 0:
+                if (left & mask) != 0:
                     count += self.count_from(course + 1, left - unit)
             self.counted[key] = count
         return self.counted[key]
@@ -38,7 +38,7 @@ def note_units(notes):
     units = {}
     for note in notes:
         if note not in units:
-            units[note] = 1 + (1 << PART_BITS * (len(units) + 1))
+            units[note] = 1 + (1 << (PART_BITS * (len(units) + 1)))
     return units
 
 

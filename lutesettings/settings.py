@@ -40,7 +40,7 @@ def touched_places(held, fingers):
     """For each finger the places that it stops, a bit each."""
     touched = [0] * len(FINGERS)
     for stop, finger in zip(held, fingers):
-        touched[finger - 1] |= 1 << PLACES_ON_COURSE * (stop[0] - 1) + stop[1]
+        touched[finger - 1] |= 1 << (PLACES_ON_COURSE * (stop[0] - 1) + stop[1])
     return tuple(touched)
 
 
@@ -94,7 +94,7 @@ class WayOn:
         if key not in self.known_moves:
             weight = self.weights[7] if before != 0 else 0
             self.known_moves[key] = [
-                weight if after != 0 and before & after == 0 else 0 for after in self.columns[k]]
+                weight if after != 0 and (before & after) == 0 else 0 for after in self.columns[k]]
         return self.known_moves[key]
 
 

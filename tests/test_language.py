@@ -35,6 +35,16 @@ UNUSED_NAMES = set(
 DUNDERS = {"__init__", "__eq__", "__repr__", "__str__", "__len__"}
 
 
+# What is walked on the spot, and what walks it.
+WALKED = ("zip", "enumerate", "reversed", "range", "items", "keys", "values")
+WALKERS = ("list", "tuple", "dict", "sorted", "sum", "any", "all", "enumerate", "zip")
+
+
+def called_name(node):
+    """The name or the method that a call calls."""
+    return node.func.id if isinstance(node.func, ast.Name) else getattr(node.func, "attr", None)
+
+
 def sources():
     return {path: path.read_text(encoding="ascii") for path in sorted(PACKAGE.rglob("*.py"))}
 
@@ -133,6 +143,48 @@ class Forms(unittest.TestCase):
                 self.assertEqual(node.decorator_list, [], where)
             if isinstance(node, ast.ClassDef):
                 self.assertLessEqual(len(node.bases), 1, where)
+
+    def test_what_is_walked_at_once(self):
+        for path, tree in trees().items():
+            walked = set()
+            for node in ast.walk(tree):
+                if isinstance(node, (ast.For, ast.comprehension)):
+                    walked.add(node.iter)
+                if isinstance(node, ast.Call) and isinstance(node.func, ast.Name) and node.args:
+                    if node.func.id in WALKERS:
+                        walked.add(node.args[0])
+                    if node.func.id in ("min", "max") and len(node.args) == 1:
+                        walked.add(node.args[0])
+            for node in ast.walk(tree):
+                if isinstance(node, ast.Call) and called_name(node) in WALKED:
+                    self.assertIn(node, walked, f"{path.name}:{node.lineno}")
+
+    def test_keywords_and_sets(self):
+        allowed = {"sorted": {"key", "reverse"}, "min": {"key", "default"}, "max": {"key", "default"},
+                   "sum": {"start"}, "enumerate": {"start"}, "zip": {"strict"}}
+        for where, node in nodes():
+            if isinstance(node, ast.Call):
+                self.assertLessEqual({word.arg for word in node.keywords}, allowed.get(called_name(node), set()), where)
+                self.assertNotIn(called_name(node), ("set", "frozenset"), where)
+            if isinstance(node, (ast.Assign, ast.AugAssign)):
+                target = node.targets[0] if isinstance(node, ast.Assign) else node.target
+                self.assertIsInstance(target, (ast.Name, ast.Attribute, ast.Subscript), where)
+                if isinstance(target, ast.Attribute):
+                    self.assertIsInstance(target.value, ast.Name, where)
+
+    def test_lists_and_dicts_of_the_top_are_only_read(self):
+        for path, tree in trees().items():
+            kept = {node.targets[0].id for node in tree.body
+                    if isinstance(node, ast.Assign) and isinstance(node.value, (ast.List, ast.Dict))}
+            read = set()
+            for node in ast.walk(tree):
+                if isinstance(node, ast.Subscript) and isinstance(node.ctx, ast.Load):
+                    read.add(node.value)
+                if isinstance(node, ast.Compare):
+                    read.update(node.comparators)
+            for node in ast.walk(tree):
+                if isinstance(node, ast.Name) and node.id in kept and isinstance(node.ctx, ast.Load):
+                    self.assertIn(node, read, f"{path.name}:{node.lineno}")
 
     def test_names(self):
         own = {node.name for where, node in nodes() if isinstance(node, (ast.FunctionDef, ast.ClassDef))}
